@@ -36,6 +36,32 @@ def many(part, eager=True):
 A, B, C, D = take("a"), take("b"), take("c"), take("d")
 
 
+# Patterns of every kind, whose nets are gone through with all small texts.
+PATTERNS = (
+    "", "a", "ab", "a|ab", "ab|a", "a*", "a*!", "a?", "a?!", "a*b", "a*!b", "(a|b)*!b", "|a", "a|", "[]", ".",
+    "a?a?b", "(ab|a)(bc|c)?", "(a*b|a)*c", "((a|ab)(c|bcd?)*)?!c", "[!a]*!a", "a*a*a*b", "()?a", "(a|a)b|(|)c",
+)
+
+# Patterns and texts as long as may be, with the first match that point 9 asks for.
+LARGE = (
+    # A way goes through the whole text.
+    ("a" * 1000, "a" * 1000, (0, 1000)),
+    ("a*", "a" * 1000, (0, 1000)),
+    ("a*!b", "a" * 999 + "b", (0, 1000)),
+    ("a" * 2000, "a" * 1000, None),
+    # Parts lead to parts over the whole net.
+    ("|" * 2000, "a", (0, 0)),
+    ("a?" * 1000, "", (0, 0)),
+    ("a?!" * 666, "a", (0, 0)),
+    ("a|" * 999 + "b", "b", (0, 1)),
+    ("a*" * 999 + "b", "b", (0, 1)),
+    ("(" + "|" * 1996 + ")b", "a", None),
+    # Both at once.
+    ("a?" * 666 + "a" * 668, "a" * 1000, (0, 1000)),
+    ("(" + "b?" * 998 + "a)*", "a" * 1000, (0, 1000)),
+)
+
+
 def nested(part, levels):
     """The part within so many maybes."""
     for _ in range(levels):
